@@ -1,7 +1,7 @@
 """The desk: a list of calls in, the list of their answers out."""
 
-from coinagree.letters import is_right_letter
-from coinagree.node import begun_node, copied_node, is_node_among
+from coinagree.letters import is_right_letter, written_letter
+from coinagree.node import begun_node, copied_node, is_node_among, is_other_node, is_stage
 from coinagree.reader import Reader
 from coinagree.saved import bytes_of_node, is_saved_node, node_from_bytes
 from coinagree.stages import take_letter
@@ -9,6 +9,7 @@ from coinagree.stages import take_letter
 DONE = 0
 BAD_ARGUMENTS = -2
 BAD_BYTES = -3
+NOT_COME_TO = -4
 TOO_LONG = -7
 
 LONGEST_LETTER = 1024
@@ -57,7 +58,42 @@ def yn_receive(nodes, reader):
     return [len(sent)] + sent
 
 
-CALLS = {0: yn_begin, 1: yn_save, 2: yn_load, 3: yn_receive}
+def yn_again(nodes, reader):
+    node = nodes[reader.take_number()]
+    to = reader.take_number()
+    stage = reader.take_number()
+    most = reader.take_number()
+    if not is_other_node(to, node.me, node.n) or not is_stage(stage) or most < 0:
+        return [BAD_ARGUMENTS]
+    if node.stage < stage:
+        return [NOT_COME_TO]
+    sent = written_letter(node, to, stage)
+    if len(sent) > most:
+        return [TOO_LONG]
+    return [len(sent)] + sent
+
+
+def yn_answer(nodes, reader):
+    node = nodes[reader.take_number()]
+    if node.answer is None:
+        return [NOT_COME_TO]
+    return [node.answer]
+
+
+def yn_stage(nodes, reader):
+    node = nodes[reader.take_number()]
+    return [node.stage]
+
+
+CALLS = {
+    0: yn_begin,
+    1: yn_save,
+    2: yn_load,
+    3: yn_receive,
+    4: yn_again,
+    5: yn_answer,
+    6: yn_stage,
+}
 
 
 def answers(calls):

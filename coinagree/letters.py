@@ -1,6 +1,6 @@
 """Letters: when one is right, and how those that a node sends are written."""
 
-from coinagree.node import LAST_STAGE, is_other_node, is_word_of_stage
+from coinagree.node import is_other_node, is_stage, is_word_of_stage
 
 LETTER_BYTES = 8
 TO_AT = 0
@@ -15,7 +15,7 @@ def is_right_letter(letter, node):
         return False
     if letter[TO_AT] != node.me or not is_other_node(letter[FROM_AT], node.me, node.n):
         return False
-    if letter[STAGE_AT] > LAST_STAGE or not is_word_of_stage(letter[WORD_AT], letter[STAGE_AT]):
+    if not is_stage(letter[STAGE_AT]) or not is_word_of_stage(letter[WORD_AT], letter[STAGE_AT]):
         return False
     return not any(letter[ZEROS_AT:])
 

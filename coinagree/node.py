@@ -43,6 +43,10 @@ def is_other_node(number, me, n):
     return 0 <= number < n and number != me
 
 
+def is_stage(number):
+    return 0 <= number <= LAST_STAGE
+
+
 def is_first_of_round(stage):
     return stage % 2 == 0
 

@@ -1,7 +1,7 @@
 """The 2200 bytes of a saved node: writing them, asking if they are so, reading them."""
 
 from coinagree.node import LAST_STAGE, MOST_NODES, Node
-from coinagree.node import enough_words, is_node_among, is_other_node, is_word_of_stage
+from coinagree.node import enough_words, is_node_among, is_other_node, is_stage, is_word_of_stage
 
 ME_AT = 0
 N_AT = 1
@@ -43,7 +43,7 @@ def is_saved_node(saved):
 def is_right_head(saved):
     if not is_node_among(saved[ME_AT], saved[N_AT]):
         return False
-    if saved[STAGE_AT] > LAST_STAGE or saved[ANSWER_AT] > MOST_ANSWER_BYTE:
+    if not is_stage(saved[STAGE_AT]) or saved[ANSWER_AT] > MOST_ANSWER_BYTE:
         return False
     return not any(saved[HEAD_ZEROS_AT:COINS_AT])
 

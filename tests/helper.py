@@ -23,6 +23,18 @@ def receive(letter, most=PLENTY, which=0):
     return [3, which, most, len(letter)] + letter
 
 
+def again(to, stage, most=PLENTY, which=0):
+    return [4, which, to, stage, most]
+
+
+def tell_answer(which=0):
+    return [5, which]
+
+
+def tell_stage(which=0):
+    return [6, which]
+
+
 def letter(to, sender, stage, word):
     return [to, sender, stage, word, 0, 0, 0, 0]
 
